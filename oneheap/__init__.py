@@ -1,0 +1,1 @@
+"""Programs of several versions of a schema on one heap of objects."""

@@ -1,0 +1,1 @@
+"""Queries: their texts and what they ask."""

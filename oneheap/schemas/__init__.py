@@ -1,0 +1,1 @@
+"""Schemas: kinds of objects, their fields and keys."""

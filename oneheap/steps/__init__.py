@@ -1,0 +1,1 @@
+"""Steps: from a schema to the next one."""

@@ -1,0 +1,1 @@
+"""Words: texts as tokens."""

@@ -1,0 +1,36 @@
+"""What the tests share."""
+
+import unittest
+
+from oneheap.errors import Fault
+
+
+def unmarked(text):
+    """Return the text without its mark `|`, and the place of the mark."""
+    place = text.index("|")
+    return text[:place] + text[place + 1:], place
+
+
+def padded(text, length):
+    """Return the text with blanks behind it, so that it has the length."""
+    assert len(text) <= length
+    return text + " " * (length - len(text))
+
+
+class FaultCase(unittest.TestCase):
+    """A case that looks at faults."""
+
+    def told_fault(self, call):
+        with self.assertRaises(Fault) as caught:
+            call()
+        return caught.exception.place, caught.exception.reason
+
+    def check_fault(self, read, marked, reason):
+        """Check that reading raises the fault at the mark `|` of the text."""
+        text, place = unmarked(marked)
+        with self.subTest(text=marked):
+            self.assertEqual(self.told_fault(lambda: read(text)), (place, reason))
+
+    def check_faults(self, read, rows):
+        for marked, reason in rows:
+            self.check_fault(read, marked, reason)
