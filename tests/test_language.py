@@ -1,4 +1,4 @@
-"""Looks at the package's files for what ../shared/LANGUAGE.md rules out (the rules that a look at one file can tell)."""
+"""Looks at the package's files for what ../shared/LANGUAGE.md rules out, as far as one look at a file can tell."""
 
 import ast
 import builtins
@@ -15,18 +15,18 @@ BUILTINS = {
     "KeyError", "IndexError", "LookupError", "ZeroDivisionError", "NotImplementedError", "iter", "next", "map",
 }
 VALUE_METHODS = set(
-    "append clear copy count endswith extend find get index insert isalnum isalpha isdigit islower isspace isupper items "
-    "join keys ljust lower lstrip partition pop remove replace reverse rfind rjust rpartition rsplit rstrip setdefault "
+    "append clear copy count endswith extend find get index insert isalnum isalpha isdigit islower isspace isupper "
+    "items join keys ljust lower lstrip partition pop remove replace reverse rfind rjust rpartition rsplit rstrip setdefault "
     "split splitlines startswith strip update upper values zfill bit_length add discard".split())
 BARRED_ATTRIBUTES = set(
-    "items keys values pop update append clear extend insert remove reverse setdefault sort args encode decode hex fromhex "
-    "format format_map mro".split())
+    "items keys values pop update append clear extend insert remove reverse setdefault sort args encode decode hex "
+    "fromhex format format_map mro".split())
 BARRED_NAMES = set(
-    "register mro elements open input law version_info with_traceback add_note type vars id super eval exec exit compile "
-    "dir globals locals help sys os gc".split())
+    "register mro elements open input law version_info with_traceback add_note type vars id super eval exec exit "
+    "compile dir globals locals help sys os gc".split())
 BARRED_WORDS = set(
-    "typing typing_extensions enum Enum IntEnum StrEnum Flag IntFlag Generic Protocol ABC ABCMeta namedtuple NamedTuple "
-    "TypedDict TYPE_CHECKING abstractmethod dataclass overload contextmanager".split())
+    "typing typing_extensions enum Enum IntEnum StrEnum Flag IntFlag Generic Protocol ABC ABCMeta namedtuple "
+    "NamedTuple TypedDict TYPE_CHECKING abstractmethod dataclass overload contextmanager".split())
 STATEMENTS = (
     ast.Assign, ast.AugAssign, ast.If, ast.While, ast.For, ast.Return, ast.Break, ast.Continue, ast.Pass, ast.Raise,
     ast.Assert, ast.Delete, ast.Nonlocal, ast.Try, ast.Expr, ast.FunctionDef, ast.ClassDef, ast.ImportFrom,
@@ -108,6 +108,9 @@ class LanguageTest(unittest.TestCase):
             if isinstance(node, ast.ImportFrom):
                 barred.update(name.name for name in node.names)
         barred.update(BARRED_NAMES, dir(builtins))
+        for node in tree.body:
+            if isinstance(node, (ast.FunctionDef, ast.ClassDef)):
+                self.assertNotIn(node.name, dir(builtins), f"{path}:{node.lineno}")
         for node in ast.walk(tree):
             if isinstance(node, ast.Name) and isinstance(node.ctx, ast.Store):
                 self.assertNotIn(node.id, barred, f"{path}:{node.lineno}")

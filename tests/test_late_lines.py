@@ -56,8 +56,13 @@ class LateTest(FaultCase):
         self.check_fault(read, "rename A.a to z; |gone key A (a);", "no such key")
         self.check("rename A.a to z; gone key A (z);", ("A { a:", "A { z:"), ("key a; key c", "key c"))
 
+    def check_behind_others(self, rows):
+        """Check each fault of a line that stands alone, and of the same line behind another one."""
+        self.check_faults(read, rows)
+        self.check_faults(read, [("rename B.a to zz; " + text, reason) for text, reason in rows])
+
     def test_faults_of_keys(self):
-        self.check_faults(read, [
+        self.check_behind_others([
             ("|new key Z (a);", "no such kind"),
             ("|gone key Z (a);", "no such kind"),
             ("|gone key A (b);", "no such key"),
@@ -81,7 +86,7 @@ class LateTest(FaultCase):
         ])
 
     def test_faults_of_needed_fields(self):
-        self.check_faults(read, [
+        self.check_behind_others([
             ("|new not null Z.a;", "no such kind"),
             ("|gone not null Z.a;", "no such kind"),
             ("|new not null A.z;", "no such field"),
@@ -95,7 +100,7 @@ class LateTest(FaultCase):
         ])
 
     def test_faults_of_rules(self):
-        self.check_faults(read, [
+        self.check_behind_others([
             ("|deletes Z.r takes;", "no such kind"),
             ("|deletes A.z takes;", "no such field"),
             ("|deletes A.a takes;", "no reference"),

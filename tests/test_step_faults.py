@@ -152,6 +152,8 @@ class ShapesTest(LineCase):
             ('|new C.r: ref A; split A by c into "x" as X, "y" as Y;', NO_KIND),
             ('|new C.r: list A; join "a" as A into D by tt;', NO_KIND),
             ("|change A.r: ref Z;", NO_KIND),
+            ("|change A.r: ref A or Z;", NO_KIND),
+            ("gone C.i; |new C.r: list B or Z or A;", NO_KIND),
             ("|change A.i: ref Z;", NO_KIND),
             ("|replace C (i) by (a: int 0..1, b: ref Z) as (i);", NO_KIND),
             ("|new C.r: list Z = 5;", NO_KIND),
@@ -167,22 +169,16 @@ class ShapesTest(LineCase):
             read(text)
 
     def test_changes(self):
-        plain = ("i: int 0..1", 't: text 3', 'c: one of "x"')
-        shapes = ("int 0..1", "text 3", 'one of "x"', "ref B", "list B")
-        rows = [("i", 3), ("t", 3), ("c", 3), ("r", 1), ("l", 1)]
-        self.assertEqual(len(plain), 3)
-        for name, _ in rows:
+        plain = ("int 0..1", "text 3", 'one of "x"')
+        allowed = {"i": plain, "t": plain, "c": plain, "r": ("ref B", "ref A takes"), "l": ("list B", "list A or C")}
+        shapes = plain + allowed["r"] + allowed["l"]
+        for name in allowed:
             for shape in shapes:
-                is_plain = shape not in ("ref B", "list B")
-                if name in ("i", "t", "c"):
-                    reason = None if is_plain else "no exchange"
-                elif name == "r":
-                    reason = None if shape == "ref B" else "no exchange"
+                if shape in allowed[name]:
+                    self.check_line(f"change A.{name}: {shape};", None)
                 else:
-                    reason = None if shape == "list B" else "no exchange"
-                self.check_line(f"change A.{name}: {shape};", reason)
-                if reason is not None:
-                    self.check_line(f"change A.{name}: {shape} else \"zzzz\";", reason)
+                    self.check_line(f"change A.{name}: {shape};", "no exchange")
+                    self.check_line(f'change A.{name}: {shape} else "zzzz";', "no exchange", "rename C.i to j; ")
 
     def test_values_of_changes(self):
         self.check_lines([

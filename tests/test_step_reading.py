@@ -139,6 +139,17 @@ class WrittenTest(FaultCase):
         self.assertEqual(again.written(), "rename Book to Tome;")
         self.assertEqual(again.young_kin("Book"), ["Tome"])
 
+    def test_nothing_is_shared(self):
+        step = read("rename Book to Tome;")
+        lines = list(step.lines)
+        again = Step(lines, step.elder, step.younger)
+        lines.clear()
+        self.assertEqual((again.written(), again.young_kin("Book")), ("rename Book to Tome;", ["Tome"]))
+        terms = [(1, "h")]
+        form = Form(terms)
+        terms.clear()
+        self.assertEqual(form.terms, [(1, "h")])
+
     def test_forms(self):
         form = Form([(60, "h"), (1, "m"), (-5, None)])
         self.assertEqual(form.terms, [(60, "h"), (1, "m"), (-5, None)])

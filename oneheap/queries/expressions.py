@@ -80,7 +80,7 @@ def read_chain(state, level, signs, read_side):
 
 
 def longer_chain(level, sign, left, right):
-    """Return a chain with one more side."""
+    """Return a chain with one more side; it stays flat, so that long queries do not become deep."""
     if isinstance(left, ChainTerm) and left.level == level:
         return ChainTerm(level, left.first, left.rest + [(sign, right)])
     return ChainTerm(level, left, [(sign, right)])
@@ -104,8 +104,6 @@ def read_turned(state):
         return inner
     if inner.word != TRUTH:
         raise Fault(word.place, DIFFER)
-    if isinstance(inner.term, NotTerm):
-        return Drawn(NotTerm(many + inner.term.many, inner.term.inner), TRUTH, inner.parameters)
     return Drawn(NotTerm(many, inner.term), TRUTH, inner.parameters)
 
 
@@ -159,10 +157,7 @@ def read_signed(state):
         return inner
     if inner.word != INTEGER and inner.word != PARAMETER:
         raise Fault(sign.place, DIFFER)
-    parameters = parameters_as(inner, INTEGER)
-    if isinstance(inner.term, MinusTerm):
-        return Drawn(MinusTerm(many + inner.term.many, inner.term.inner), INTEGER, parameters)
-    return Drawn(MinusTerm(many, inner.term), INTEGER, parameters)
+    return Drawn(MinusTerm(many, inner.term), INTEGER, parameters_as(inner, INTEGER))
 
 
 def read_single(state):
