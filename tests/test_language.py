@@ -33,8 +33,9 @@ STATEMENTS = (
 )
 BARRED_NODES = (
     ast.GeneratorExp, ast.Yield, ast.YieldFrom, ast.Await, ast.Global, ast.AsyncFunctionDef,
-    ast.Import, ast.AnnAssign, ast.NamedExpr, ast.Lambda, ast.Set, ast.Div, ast.Mod, ast.Pow,
+    ast.Import, ast.AnnAssign, ast.NamedExpr, ast.Set, ast.Div, ast.Mod, ast.Pow,
 )
+LIBRARY = {"math": ("gcd",)}
 DUNDERS = {"__init__", "__eq__", "__repr__", "__str__", "__len__"}
 
 
@@ -132,7 +133,9 @@ class LanguageTest(unittest.TestCase):
             used[module_name(path)] = []
             loaded = {node.id for node in ast.walk(tree) if isinstance(node, ast.Name)}
             for node in ast.walk(tree):
-                if isinstance(node, ast.ImportFrom):
+                if isinstance(node, ast.ImportFrom) and node.module in LIBRARY:
+                    self.assertTrue(all(name.name in LIBRARY[node.module] and not name.asname for name in node.names))
+                elif isinstance(node, ast.ImportFrom):
                     self.assertIn(node.module, defined, path)
                     self.assertEqual(node.level, 0, path)
                     used[module_name(path)].append(node.module)
@@ -186,7 +189,19 @@ class LanguageTest(unittest.TestCase):
         for where, node in self.walk(ast.Call):
             if isinstance(node.func, ast.Attribute) and node.func.attr not in DUNDERS:
                 self.assertIn(node.func.attr, VALUE_METHODS | own, where)
-            self.assertFalse(any(isinstance(one, ast.Starred) for one in node.args), where)
+            for one in node.args:
+                if isinstance(one, ast.Starred):
+                    self.assertIsInstance(one.value, (ast.Name, ast.Attribute), where)
+                    self.assertIn(getattr(node.func, "attr", getattr(node.func, "id", "")), own, where)
+
+    def test_lambdas_only_tell_an_attribute_by_which_is_sorted(self):
+        allowed = []
+        for _, node in self.walk(ast.Call):
+            if isinstance(node.func, ast.Name) and node.func.id == "sorted":
+                allowed.extend(one.value for one in node.keywords if one.arg == "key")
+        for where, node in self.walk(ast.Lambda):
+            self.assertIn(node, allowed, where)
+            self.assertIsInstance(node.body, ast.Attribute, where)
 
     def test_is(self):
         for where, node in self.walk(ast.Compare):

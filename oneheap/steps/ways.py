@@ -112,13 +112,13 @@ class FormsWay(Way):
 class TableRow:
     """A row of a table: values of the group, and the values that are made of them."""
 
-    def __init__(self, given, told):
+    def __init__(self, given, made):
         self.given = list(given)
-        self.told = list(told)
+        self.made = list(made)
 
     def written(self):
         """Return the row as text."""
-        return f"{values_text(self.given)} -> {values_text(self.told)}"
+        return f"{values_text(self.given)} -> {values_text(self.made)}"
 
 
 class TableWay(Way):
@@ -150,7 +150,7 @@ class TableWay(Way):
 
     def is_held(self, group, made):
         """Return whether the made fields hold all that the way makes."""
-        return all([are_held(made, row.told) for row in self.rows])
+        return all([are_held(made, row.made) for row in self.rows])
 
 
 def value_count(shape):

@@ -1,0 +1,1 @@
+"""The line of versions, and the heap with one picture for each of them."""

@@ -1,0 +1,1 @@
+"""How the objects of a heap lie in tables."""

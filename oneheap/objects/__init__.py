@@ -1,0 +1,1 @@
+"""Things, pictures, and views with edits laid on them."""

@@ -1,0 +1,1 @@
+"""The store: tables with columns and keys, and their rows."""

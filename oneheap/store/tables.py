@@ -1,0 +1,48 @@
+"""Tables: their columns and keys."""
+
+
+class Column:
+    """A column: its role is "value", "reference" or "links"; targets are the names of tables."""
+
+    def __init__(self, name, role, targets=()):
+        self.name = name
+        self.role = role
+        self.targets = list(targets)
+
+    def __eq__(self, other):
+        if not isinstance(other, Column) or self.name != other.name:
+            return False
+        return self.role == other.role and self.targets == other.targets
+
+
+class StoreKey:
+    """A key: its name, and the indexes of its columns."""
+
+    def __init__(self, name, places):
+        self.name = name
+        self.places = list(places)
+
+    def __eq__(self, other):
+        return isinstance(other, StoreKey) and self.name == other.name and self.places == other.places
+
+
+class Table:
+    """A table: its name, its columns, and its keys."""
+
+    def __init__(self, name, columns, unique=()):
+        self.name = name
+        self.columns = list(columns)
+        self.unique = list(unique)
+
+    def __eq__(self, other):
+        if not isinstance(other, Table) or self.name != other.name:
+            return False
+        return self.columns == other.columns and self.unique == other.unique
+
+
+def table_named(tables, name):
+    """Return the table with this name, or None."""
+    for table in tables:
+        if table.name == name:
+            return table
+    return None

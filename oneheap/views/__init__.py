@@ -1,0 +1,1 @@
+"""Objects carried between neighbouring versions, and what is lost on the way."""
