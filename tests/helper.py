@@ -3,6 +3,9 @@
 import unittest
 
 from oneheap.errors import Fault
+from oneheap.objects.thing import Thing
+from oneheap.schemas.reading import read_schema
+from oneheap.steps.step import read_step
 
 
 def unmarked(text):
@@ -34,3 +37,13 @@ class FaultCase(unittest.TestCase):
     def check_faults(self, read, rows):
         for marked, reason in rows:
             self.check_fault(read, marked, reason)
+
+
+def step_of(schema, text):
+    """Return the step of a text from the schema of another text."""
+    return read_step(read_schema(schema), text)
+
+
+def thing(kind, **contents):
+    """Return the thing of a kind with contents by the names of its fields."""
+    return Thing(kind, contents)
