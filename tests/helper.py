@@ -3,6 +3,7 @@
 import unittest
 
 from oneheap.errors import Fault
+from oneheap.heap.line import Line, Version
 from oneheap.objects.thing import Thing
 from oneheap.schemas.reading import read_schema
 from oneheap.steps.step import read_step
@@ -47,3 +48,12 @@ def step_of(schema, text):
 def thing(kind, **contents):
     """Return the thing of a kind with contents by the names of its fields."""
     return Thing(kind, contents)
+
+
+def line_of(schema, *texts):
+    """Return the line of versions 1, 2, 3 .. that begins with the schema of a text and goes on with the steps of texts."""
+    versions = [Version(1, read_schema(schema), None)]
+    for text in texts:
+        step = read_step(versions[-1].schema, text)
+        versions.append(Version(len(versions) + 1, step.younger, step))
+    return Line(versions)
