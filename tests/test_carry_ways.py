@@ -83,6 +83,8 @@ class NearestSourceTest(unittest.TestCase):
         self.assertIsNone(nearest_source([form], ["a"], [(0, 9)], [14], None))
         self.assertIsNone(nearest_source([form], ["a"], [(0, 3)], [13], None))
         self.assertIsNone(nearest_source([form], ["a"], [(5, 9)], [13], None))
+        self.assertEqual(nearest_source([form], ["a"], [(4, 9)], [13], None), [4])
+        self.assertEqual(nearest_source([form], ["a"], [(0, 4)], [13], None), [4])
 
     def test_one_field_and_two_forms(self):
         forms = [Form([(2, "a")]), Form([(1, "a"), (1, "a"), (5, None)])]
@@ -118,8 +120,31 @@ class NearestSourceTest(unittest.TestCase):
         forms = [self.SUM, Form([(1, "a"), (-1, "b")])]
         bounds = [(0, 9), (0, 9)]
         self.assertEqual(nearest_source(forms, ["a", "b"], bounds, [7, 3], [0, 0]), [5, 2])
-        for made in ([8, 3], [12, -12], [2, 4], [30, 0]):
+        for made in ([8, 3], [12, -12], [2, 4], [30, 0], [9, 11], [-2, 0], [9, -11]):
             self.assertIsNone(nearest_source(forms, ["a", "b"], bounds, made, None), made)
+        for made, found in (([9, 9], [9, 0]), ([9, -9], [0, 9]), ([18, 0], [9, 9]), ([0, 0], [0, 0])):
+            self.assertEqual(nearest_source(forms, ["a", "b"], bounds, made, None), found)
+
+    def test_two_forms_with_one_source_and_different_bounds(self):
+        forms = [self.SUM, Form([(1, "a"), (-1, "b")])]
+        for made, found in (([8, 4], [6, 2]), ([8, 0], None), ([8, 8], None), ([12, 2], None), ([7, 3], [5, 2]), ([4, -2], None)):
+            self.assertEqual(nearest_source(forms, ["a", "b"], [(5, 9), (1, 3)], made, None), found, made)
+
+    def test_two_forms_of_which_only_one_field_does_not_come_out(self):
+        names, bounds = ["a", "b"], [(0, 9), (0, 9)]
+        forms = [Form([(2, "a"), (1, "b")]), Form([(1, "b")])]
+        self.assertIsNone(nearest_source(forms, names, bounds, [5, 2], None))
+        self.assertIsNone(nearest_source(forms, names, bounds, [22, 2], None))
+        self.assertIsNone(nearest_source(forms, names, bounds, [12, 10], None))
+        self.assertEqual(nearest_source(forms, names, bounds, [6, 2], None), [2, 2])
+        forms = [Form([(1, "a")]), Form([(1, "a"), (2, "b")])]
+        self.assertIsNone(nearest_source(forms, names, bounds, [2, 5], None))
+        self.assertEqual(nearest_source(forms, names, bounds, [2, 6], None), [2, 2])
+
+    def test_a_form_without_fields_beside_another_one(self):
+        forms = [Form([(5, None)]), Form([(1, "a")])]
+        self.assertEqual(nearest_source(forms, ["a"], [(0, 9)], [5, 3], None), [3])
+        self.assertIsNone(nearest_source(forms, ["a"], [(0, 9)], [6, 3], None))
 
     def test_two_forms_of_one_proportion(self):
         forms = [self.SUM, Form([(2, "a"), (2, "b"), (1, None)])]
@@ -131,7 +156,7 @@ class NearestSourceTest(unittest.TestCase):
         bounds = [(0, 9), (2, 5)]
         self.assertEqual(nearest_source([self.A], ["a", "b"], bounds, [4], None), [4, 2])
         self.assertEqual(nearest_source([self.A], ["a", "b"], bounds, [4], [1, 4]), [4, 4])
-        self.assertEqual(nearest_source([Form([(2, "b")])], ["a", "b"], bounds, [8], [3, 3]), [3, 4])
+        self.assertEqual(nearest_source([Form([(2, "b")])], ["a", "b"], bounds, [8], [3, 5]), [3, 4])
         self.assertEqual(nearest_source([Form([(2, "b")])], ["a", "b"], bounds, [8], [3, None]), [0, 4])
         self.assertIsNone(nearest_source([Form([(2, "b")])], ["a", "b"], bounds, [7], None))
         self.assertIsNone(nearest_source([Form([(2, "b")])], ["a", "b"], bounds, [12], None))

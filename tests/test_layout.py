@@ -58,6 +58,10 @@ class StrandsTest(unittest.TestCase):
         self.assertEqual([(key.name, key.versions) for key in carried_keys(line)],
                          [("v1.A.key1", [("A", ["a"]), ("A", ["a"]), ("A", ["d"])])])
 
+    def test_keys_with_references_are_no_store_keys(self):
+        line = line_of("kind A { a: int 0..9; b: int 0..9; r: ref A; key a, r; key b; }", "")
+        self.assertEqual([key.name for key in carried_keys(line)], ["v1.A.key2"])
+
     def test_carried_key(self):
         key = CarriedKey("k", [("A", ["a"])])
         self.assertEqual((key.name, key.versions), ("k", [("A", ["a"])]))

@@ -178,6 +178,9 @@ class LosingTest(unittest.TestCase):
             (pair, two + "(-2 * a + -4 * b);", ([2, 2], [0, 3])),
             (pair, two + "(2 * a + -4 * b);", ([2, 3], [0, 2])),
             (pair, two + "(4 * a + b);", None),
+            (pair, two + "(4 * a + -1 * b);", None),
+            (pair, two + "(a + 10 * b);", None),
+            (pair, "replace A (a, b) by (k: int 5..5, s: int 0..99) as (5, a + b);", ([1, 2], [0, 3])),
             (pair, two + "(3 * a + b);", ([1, 2], [0, 5])),
             (pair, "replace A (a, b) by (s: int 0..99, d: int -9..9) as (a + b, a + -1 * b);", None),
             (pair, "replace A (a, b) by (s: int 0..99, d: int 0..99) as (a + b, 2 * a + 2 * b);", ([1, 2], [0, 3])),
@@ -189,6 +192,8 @@ class LosingTest(unittest.TestCase):
         self.check_rows([
             (schema, "replace A (a, b) by (s: int -1000000000..1000000000) as (a + b);",
              ([-499999999, -500000000], [-500000000, -499999999])),
+            ("kind A { a: int 0..999 not null; b: int 0..999 not null; }",
+             "replace A (a, b) by (s: int 0..1000000) as (a + 100 * b);", ([100, 0], [0, 1])),
         ])
 
     def test_tables(self):

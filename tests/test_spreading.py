@@ -259,6 +259,7 @@ class VersionsTest(unittest.TestCase):
     def test_without_the_last_version(self):
         heap = with_version(self.LINE, self.HEAP)
         heap.picture_of(3)[9] = thing("C", r=9)
+        heap.picture_of(3)[3] = thing("C", r=None)
         heap.picture_of(3)[2].contents["l"] = [9]
         heap.picture_of(1)[2].contents["l"] = [9, 1]
         heap.picture_of(1)[3].contents["r"] = 9

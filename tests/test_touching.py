@@ -48,6 +48,8 @@ class TouchedTest(unittest.TestCase):
         self.view.make(9, "A", {"s": 1, "n": 2})
         self.view.make(8, "B", {})
         self.check((8, True, False, []), (9, True, False, NAMES))
+        self.view.put(1, "n", 2)
+        self.check((1, False, False, ["n"]), (8, True, False, []), (9, True, False, NAMES))
 
     def test_made_and_changed(self):
         self.view.make(9, "A", {})

@@ -5,6 +5,7 @@ import unittest
 from helper import thing
 from oneheap.errors import (
     FieldIsList, FieldIsNoLink, FieldIsNoList, NoSuchField, NoSuchKey, NoSuchKind, NoSuchObject,
+    ValueDoesNotFit,
 )
 from oneheap.objects.source import PictureSource
 from oneheap.objects.thing import picture_copy
@@ -89,7 +90,7 @@ class AsksTest(AskCase):
         self.assertRaises(FieldIsNoList, self.view.listed, 1, "writer")
 
     def test_for_which_things_the_source_is_asked(self):
-        source = CountingSource(self.picture)
+        source = CountingSource({**self.picture, 13: thing("Author", name="z", best=None)})
         view = View(SCHEMA, source)
         rows = [
             (lambda: view.there(1), [1]),
@@ -100,11 +101,20 @@ class AsksTest(AskCase):
             (lambda: view.told(4, "writer"), [4, 98]),
             (lambda: view.listed(1, "also"), [1, 2, 10, 99, 3]),
             (lambda: view.listed(2, "also"), [2]),
+            (lambda: view.told(13, "best"), [13]),
         ]
         for at, (call, asked) in enumerate(rows):
             source.asked = []
             call()
             self.assertEqual(source.asked, asked, at)
+
+    def test_only_numbers_are_looked_for(self):
+        source = CountingSource({True: thing("Author", name="z", best=None), 2: thing("Book", title="a", year=1, writer=None, also=[])})
+        view = View(SCHEMA, source)
+        for amount in ("x", True):
+            source.asked = []
+            self.assertRaises(ValueDoesNotFit, view.put, 2, "writer", amount)
+            self.assertEqual(source.asked, [2])
 
     def test_look_up(self):
         rows = [(["title", "year"], ["a", 1], 1), (["title", "year"], ["b", 1], 2), (["title", "year"], ["a", 2], 5),

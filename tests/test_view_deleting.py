@@ -10,10 +10,10 @@ from oneheap.objects.view import Refusing, View
 from oneheap.schemas.reading import read_schema
 
 SCHEMA = read_schema(
-    "kind Node { up: ref Node takes; side: ref Leaf; hold: ref Node or Leaf refuses; keep: ref Leaf refuses; "
+    "kind Node { n: int 0..9; up: ref Node takes; side: ref Leaf; hold: ref Node or Leaf refuses; keep: ref Leaf refuses; "
     "each: list Node; few: list Leaf; } kind Leaf { home: ref Node takes; }"
 )
-NODE = {"up": None, "side": None, "hold": None, "keep": None, "each": [], "few": []}
+NODE = {"n": None, "up": None, "side": None, "hold": None, "keep": None, "each": [], "few": []}
 
 
 def node(**contents):
@@ -56,6 +56,10 @@ class DeleteTest(unittest.TestCase):
         ring = {3: node(up=1), 1: node(up=2), 2: node(up=3), 4: node(up=9)}
         self.check(ring, 2, ([2, 1, 3], []), {1: None, 2: None, 3: None})
 
+    def test_what_goes_is_told_ascending(self):
+        picture = {3: node(), 8: node(up=3), 1: leaf(home=8), 16: node(up=3)}
+        self.check(picture, 3, ([3, 1, 8, 16], []), {3: None, 8: None, 1: None, 16: None})
+
     def test_the_deleted_object_is_told_first(self):
         self.check({1: node(up=9), 9: node(), 4: node(up=9)}, 9, ([9, 1, 4], []), {1: None, 9: None, 4: None})
 
@@ -64,6 +68,8 @@ class DeleteTest(unittest.TestCase):
         self.check({1: node(), 3: node(hold=1), 2: node(hold=1)}, 1, Refusing(2, "hold"), {})
         self.check({1: leaf(), 2: node(keep=1, hold=1)}, 1, Refusing(2, "hold"), {})
         self.check({1: leaf(), 2: node(keep=1)}, 1, Refusing(2, "keep"), {})
+        self.check({1: leaf(), 2: node(side=1, keep=1, few=[1], n=1)}, 1, Refusing(2, "keep"), {})
+        self.check({3: node(), 8: node(hold=3), 1: node(hold=3)}, 3, Refusing(1, "hold"), {})
 
     def test_refused_by_what_tells_an_object_that_is_taken_along(self):
         self.check({1: node(), 4: node(up=1), 5: leaf(home=4), 7: node(hold=4), 6: node(keep=5)}, 1, Refusing(6, "keep"), {})
@@ -80,6 +86,8 @@ class DeleteTest(unittest.TestCase):
 
     def test_cleared_references(self):
         self.check({1: leaf(), 2: node(side=1), 3: node(side=4), 4: leaf()}, 1, ([1], [2]), {1: None, 2: node()})
+        self.check({1: leaf(), 2: node(n=1, side=1, keep=4), 4: leaf()}, 1, ([1], [2]), {1: None, 2: node(n=1, keep=4)})
+        self.check({3: leaf(), 8: node(side=3), 1: node(side=3)}, 3, ([3], [1, 8]), {3: None, 8: node(), 1: node()})
 
     def test_cleared_lists(self):
         self.check({1: node(), 2: node(each=[3, 1, 2]), 3: node(each=[1])}, 1, ([1], [2, 3]),

@@ -26,7 +26,6 @@ class StrandColumn:
 
     def __init__(self, name, strand, shape):
         self.name = name
-        self.place = None
         self.strand = strand
         self.shape = shape
 

@@ -183,10 +183,10 @@ class View:
             return Refusing(refused[0], refused[1])
         cleared = cleared_fields(self, going)
         things = cleared_things(self, cleared, going)
-        touched = sorted(list(things))
+        changed = list(things)
         things.update({one: None for one in going})
         self.stand(Edit(("delete", number), things, [], cleared))
-        return [number, *sorted(going[1:])], touched
+        return [number, *sorted(going[1:])], changed
 
     def check_fits(self, field, amount):
         """Raise ValueDoesNotFit if a value does not fit a field that is no list."""

@@ -35,7 +35,7 @@ def outer_values(shape, other):
         return shape.choices
     if isinstance(shape, IntSort):
         beyond = [other.high + 1, other.high + 2] if isinstance(other, IntSort) else []
-        return sorted([shape.low, shape.low + 1, *beyond])
+        return [shape.low, shape.low + 1, *beyond]
     if isinstance(other, TextSort):
         return outer_texts(shape, other)
     return least_values(shape, MOST_CHOICES + 2)

@@ -100,7 +100,10 @@ def exact_within(factor, total, bounds):
 
 
 def common_divisor(first, second):
-    """Return a greatest common divisor, and the number of times that the first is in it, beside the second."""
+    """Return the greatest common divisor with the sign of the second number, and a factor for the first one.
+
+    The first number times the factor is the divisor and a multiple of the second number.
+    """
     part, next_part = 1, 0
     while second != 0:
         share = first // second
@@ -112,12 +115,11 @@ def common_divisor(first, second):
 def nearest_turned(equation, divisor, start, bounds, goal):
     """Return the nearest two integers of those to which one can turn from the start, or None.
 
-    All pairs for which the equation holds lie on a line, one step behind the other.
+    All pairs for which the equation holds lie on a line, one step behind the other. The divisor has the sign of the
+    second factor, so that the first integer grows with each step.
     """
     step = equation.second // divisor
     other_step = -(equation.first // divisor)
-    if step < 0:
-        step, other_step = -step, -other_step
     other_start = (equation.total - equation.first * start) // equation.second
     least, most = turns_within(start, step, bounds[0])
     other_least, other_most = turns_within(other_start, other_step, bounds[1])
