@@ -7,6 +7,7 @@ from helper import step_of
 from oneheap.objects.thing import blank_thing
 from oneheap.schemas.sorts import ChoiceSort, IntSort
 from oneheap.views.carry import first_elder_thing, first_thing
+from oneheap.views.least import SIGNS
 from oneheap.views.losses import losing
 
 ALPHABET = ' !"#x|'
@@ -40,6 +41,11 @@ def first_loss(step):
         if back != list(values):
             return list(values), back
     return None
+
+
+class SignsTest(unittest.TestCase):
+    def test_all_characters_in_the_order_of_their_codes(self):
+        self.assertEqual(SIGNS, "".join(chr(code) for code in range(32, 127) if code != 37))
 
 
 class LosingTest(unittest.TestCase):

@@ -35,12 +35,13 @@ class TablesTest(unittest.TestCase):
     def test_table(self):
         columns, unique = [Column("a", "value")], [StoreKey("k", [0])]
         table = Table("T", columns, unique)
-        self.assertIs(table.columns[0], columns[0])
         columns.append(Column("b", "value"))
         unique.append(StoreKey("l", [1]))
+        columns[0].targets.append("T")
+        unique[0].places.append(1)
         self.assertEqual((table.name, table.columns, table.unique), ("T", [Column("a", "value")], [StoreKey("k", [0])]))
-        Table("T", columns).unique.append(1)
-        self.assertEqual(Table("T", columns).unique, [])
+        Table("T", []).unique.append(1)
+        self.assertEqual(Table("T", []).unique, [])
 
     def test_equal_tables(self):
         table = Table("T", [Column("a", "value")], [StoreKey("k", [0])])

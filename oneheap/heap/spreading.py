@@ -32,7 +32,7 @@ def follow(step, to_young, far, near, touches):
     """Return the pair of a new picture that has followed the near one across a step, and the list of its touches."""
     picture = picture_copy(far)
     far_touches = []
-    for touch in sorted(touches, key=lambda touch: touch.number):
+    for touch in sorted(touches, key=lambda one: one.number):
         found = followed(step, to_young, picture, near, touch)
         if found is not None:
             far_touches.append(found)

@@ -9,6 +9,10 @@ class Column:
         self.role = role
         self.targets = list(targets)
 
+    def copied(self):
+        """Return an equal column that shares nothing with this one."""
+        return Column(self.name, self.role, self.targets)
+
     def __eq__(self, other):
         if not isinstance(other, Column) or self.name != other.name:
             return False
@@ -22,6 +26,10 @@ class StoreKey:
         self.name = name
         self.places = list(places)
 
+    def copied(self):
+        """Return an equal key that shares nothing with this one."""
+        return StoreKey(self.name, self.places)
+
     def __eq__(self, other):
         return isinstance(other, StoreKey) and self.name == other.name and self.places == other.places
 
@@ -31,8 +39,8 @@ class Table:
 
     def __init__(self, name, columns, unique=()):
         self.name = name
-        self.columns = list(columns)
-        self.unique = list(unique)
+        self.columns = [column.copied() for column in columns]
+        self.unique = [key.copied() for key in unique]
 
     def __eq__(self, other):
         if not isinstance(other, Table) or self.name != other.name:
