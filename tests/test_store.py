@@ -86,7 +86,8 @@ class RowsTest(unittest.TestCase):
         found = sorted_rows(tables, rows)
         self.assertEqual([(row.table, row.number) for row in found], [("B", 2), ("B", 11), ("A", 1), ("A", 2), ("A", 10)])
         found.pop()
-        self.assertEqual([row.number for row in rows], [2, 11, 1, 2, 10])
+        self.assertEqual(rows, [Row("A", 2, []), Row("B", 11, []), Row("A", 1, []), Row("B", 2, []), Row("A", 10, [])])
+        self.assertEqual([table.name for table in tables], ["B", "A", "C"])
         self.assertEqual(sorted_rows(tables, []), [])
 
     def test_key_value(self):
@@ -96,6 +97,7 @@ class RowsTest(unittest.TestCase):
         self.assertEqual(key_value(table, StoreKey("k", [0]), cells), (("value", 1),))
         self.assertEqual(key_value(table, StoreKey("k", [0]), [0, None, None]), (("value", 0),))
         self.assertEqual(key_value(table, StoreKey("k", [2]), [None, None, ""]), (("value", ""),))
+        self.assertEqual(cells, [1, 5, "x"])
 
     def test_no_key_value(self):
         table = Table("T", [Column("a", "value"), Column("b", "reference", ["T"]), Column("c", "value")])

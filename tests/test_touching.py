@@ -133,6 +133,13 @@ class TouchedTest(unittest.TestCase):
         self.view.undo()
         self.check((9, True, False, []))
 
+    def test_the_view_does_not_change(self):
+        self.view.put(1, "n", 4)
+        self.view.delete(3)
+        standing, picture = list(self.view.standing), self.view.picture({1: blank(), 3: blank()})
+        touched(self.view)
+        self.assertEqual((self.view.standing, self.view.picture({1: blank(), 3: blank()})), (standing, picture))
+
     def test_what_is_returned_is_not_shared(self):
         self.view.put(1, "n", 4)
         touched(self.view)[0].names.append("q")
