@@ -33,9 +33,9 @@ STATEMENTS = (
 )
 BARRED_NODES = (
     ast.GeneratorExp, ast.Yield, ast.YieldFrom, ast.Await, ast.Global, ast.AsyncFunctionDef,
-    ast.Import, ast.AnnAssign, ast.NamedExpr, ast.Set, ast.Div, ast.Mod, ast.Pow,
+    ast.Import, ast.AnnAssign, ast.NamedExpr, ast.Set, ast.Div, ast.Pow,
 )
-LIBRARY = {"math": ("gcd",)}
+LIBRARY = {"math": ("gcd",), "heapq": ("heappop", "heappush")}
 DUNDERS = {"__init__", "__eq__", "__repr__", "__str__", "__len__"}
 
 
@@ -194,14 +194,16 @@ class LanguageTest(unittest.TestCase):
                     self.assertIsInstance(one.value, (ast.Name, ast.Attribute), where)
                     self.assertIn(getattr(node.func, "attr", getattr(node.func, "id", "")), own, where)
 
-    def test_lambdas_only_tell_an_attribute_by_which_is_sorted(self):
+    def test_lambdas_only_tell_an_attribute_or_an_item_by_which_is_sorted(self):
         allowed = []
         for _, node in self.walk(ast.Call):
             if isinstance(node.func, ast.Name) and node.func.id == "sorted":
                 allowed.extend(one.value for one in node.keywords if one.arg == "key")
         for where, node in self.walk(ast.Lambda):
             self.assertIn(node, allowed, where)
-            self.assertIsInstance(node.body, ast.Attribute, where)
+            self.assertIsInstance(node.body, (ast.Attribute, ast.Subscript), where)
+            if isinstance(node.body, ast.Subscript):
+                self.assertIsInstance(node.body.slice, ast.Constant, where)
 
     def test_is(self):
         for where, node in self.walk(ast.Compare):

@@ -2,7 +2,7 @@
 
 from oneheap.heap.heap import Heap
 from oneheap.heap.line import Line
-from oneheap.layouts.columns import all_strands, kind_columns
+from oneheap.layouts.plans import all_strands, kind_columns
 from oneheap.layouts.strands import carried_keys, kin_of
 from oneheap.objects.thing import Thing
 from oneheap.store.rows import Row, sorted_rows

@@ -1,6 +1,7 @@
 """Expressions in the text of a query, with their sorts."""
 
 from oneheap.errors import Fault
+from oneheap.queries.meaning import LARGEST
 from oneheap.queries.paths import read_list_path, read_plain_path, read_total_path
 from oneheap.queries.sorts import ASKED, INTEGER, PARAMETER, TEXT, TRUTH, common_sort
 from oneheap.queries.terms import (
@@ -9,7 +10,6 @@ from oneheap.queries.terms import (
 )
 from oneheap.words.reader import is_certain
 
-LARGEST = 1000000000000
 COMPARISONS = ("=", "!=", "<", "<=", ">", ">=", "starts", "holds")
 TOTALS = ("sum", "least", "greatest")
 DIFFER = "sorts differ"

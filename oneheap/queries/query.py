@@ -17,7 +17,8 @@ class QueryParts:
     """What stands in a query: terms, or None for what does not stand there.
 
     The paths of `groups` are an empty list for "group all". The sorts of the parameters
-    stand in the order in which the parameters stand in the text.
+    stand in the order in which the parameters stand in the text; those of the terms behind
+    "give" stand in the order of the terms.
     """
 
     def __init__(self, kind, name):
@@ -27,6 +28,7 @@ class QueryParts:
         self.groups = None
         self.order = []
         self.given = []
+        self.given_sorts = []
         self.skipped = None
         self.kept = None
         self.parameters = {}

@@ -116,6 +116,7 @@ def read_give(state, parts):
     """Read what stands behind "give"; return the sorts of the parameters of each term."""
     found = read_several(state, MOST_GIVEN, read_told)
     parts.given = [drawn.term for drawn in found]
+    parts.given_sorts = [drawn.word for drawn in found]
     return [drawn.parameters for drawn in found]
 
 

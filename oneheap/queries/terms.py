@@ -1,5 +1,6 @@
-"""The expressions of queries, and how they are written."""
+"""The expressions of queries: how they are written, and what they are worth in a scene."""
 
+from oneheap.queries.meaning import computed, is_true, negated, total_of
 from oneheap.words.tokens import quoted
 
 # What joins more loosely has a lesser level.
@@ -36,6 +37,10 @@ class NumberTerm(SingleTerm):
         """Return the term as text."""
         return str(self.amount)
 
+    def worth(self, scene):
+        """Return what the term is worth in a scene."""
+        return self.amount
+
 
 class TextTerm(SingleTerm):
     """A text."""
@@ -47,6 +52,10 @@ class TextTerm(SingleTerm):
     def written(self):
         """Return the term as text."""
         return quoted(self.text)
+
+    def worth(self, scene):
+        """Return what the term is worth in a scene."""
+        return self.text
 
 
 class ParameterTerm(SingleTerm):
@@ -60,6 +69,10 @@ class ParameterTerm(SingleTerm):
         """Return the term as text."""
         return f":{self.name}"
 
+    def worth(self, scene):
+        """Return what the term is worth in a scene."""
+        return scene.parameters.get(self.name)
+
 
 class PathTerm(SingleTerm):
     """A name, and the fields behind it."""
@@ -72,6 +85,24 @@ class PathTerm(SingleTerm):
     def written(self):
         """Return the term as text."""
         return ".".join([self.name, *self.fields])
+
+    def worth(self, scene):
+        """Return what the term is worth in a scene."""
+        return self.led(scene, self.fields)
+
+    def listed_in(self, scene):
+        """Return the numbers that the list to which the path leads tells in a scene."""
+        number = self.led(scene, self.fields[:-1])
+        return [] if number is None else scene.view.listed(number, self.fields[-1])
+
+    def led(self, scene, fields):
+        """Return what fields lead to from the object that the name is, or None where they come by None."""
+        found = scene.names[self.name]
+        for field in fields:
+            if found is None:
+                return None
+            found = scene.view.told(found, field)
+        return found
 
 
 class SomeTerm(SingleTerm):
@@ -88,6 +119,14 @@ class SomeTerm(SingleTerm):
         """Return the term as text."""
         return f"{self.word} {self.name} in {self.path.written()} ({self.inner.written()})"
 
+    def worth(self, scene):
+        """Return what the term is worth in a scene."""
+        sought = self.word == "some"
+        for number in self.path.listed_in(scene):
+            if self.inner.worth(scene.with_name(self.name, number)) == sought:
+                return sought
+        return not sought
+
 
 class CountTerm(SingleTerm):
     """The number of objects of a list, or of the group if the path is None."""
@@ -99,6 +138,10 @@ class CountTerm(SingleTerm):
     def written(self):
         """Return the term as text."""
         return "count()" if self.path is None else f"count({self.path.written()})"
+
+    def worth(self, scene):
+        """Return what the term is worth in a scene."""
+        return len(scene.group) if self.path is None else len(self.path.listed_in(scene))
 
 
 class GroupTotal(SingleTerm):
@@ -112,6 +155,11 @@ class GroupTotal(SingleTerm):
     def written(self):
         """Return the term as text."""
         return f"{self.word}({self.path.written()})"
+
+    def worth(self, scene):
+        """Return what the term is worth in a scene."""
+        amounts = [self.path.worth(scene.with_name(self.path.name, number)) for number in scene.group]
+        return total_of(self.word, amounts)
 
 
 class ListTotal(SingleTerm):
@@ -127,6 +175,11 @@ class ListTotal(SingleTerm):
     def written(self):
         """Return the term as text."""
         return f"{self.word}({self.name} in {self.path.written()}: {self.inner.written()})"
+
+    def worth(self, scene):
+        """Return what the term is worth in a scene."""
+        numbers = self.path.listed_in(scene)
+        return total_of(self.word, [self.inner.worth(scene.with_name(self.name, number)) for number in numbers])
 
 
 class ChainTerm:
@@ -144,6 +197,27 @@ class ChainTerm:
             row.extend([sign, enclosed(side, self.level + 1)])
         return " ".join(row)
 
+    def worth(self, scene):
+        """Return what the term is worth in a scene."""
+        if self.level == OR_LEVEL or self.level == AND_LEVEL:
+            return self.truth(scene)
+        amount = self.first.worth(scene)
+        for sign, side in self.rest:
+            amount = computed(sign, amount, side.worth(scene))
+        return amount
+
+    def sides(self):
+        """Return the list of the sides."""
+        return [self.first, *[side for _, side in self.rest]]
+
+    def truth(self, scene):
+        """Return whether "or" or "and" is true of the sides."""
+        sought = self.level == OR_LEVEL
+        for side in self.sides():
+            if side.worth(scene) == sought:
+                return sought
+        return not sought
+
 
 class CompareTerm:
     """A comparison of two sides."""
@@ -157,6 +231,10 @@ class CompareTerm:
     def written(self):
         """Return the term as text."""
         return f"{enclosed(self.left, SUM_LEVEL)} {self.sign} {enclosed(self.right, SUM_LEVEL)}"
+
+    def worth(self, scene):
+        """Return what the term is worth in a scene."""
+        return is_true(self.sign, self.left.worth(scene), self.right.worth(scene))
 
 
 class NullTerm:
@@ -172,6 +250,10 @@ class NullTerm:
         end = "is not null" if self.turned else "is null"
         return f"{enclosed(self.inner, SUM_LEVEL)} {end}"
 
+    def worth(self, scene):
+        """Return what the term is worth in a scene."""
+        return (self.inner.worth(scene) is None) != self.turned
+
 
 class AmongTerm:
     """Whether something is one of several others."""
@@ -186,6 +268,11 @@ class AmongTerm:
         others = ", ".join([enclosed(other, SUM_LEVEL) for other in self.others])
         return f"{enclosed(self.inner, SUM_LEVEL)} in ({others})"
 
+    def worth(self, scene):
+        """Return what the term is worth in a scene."""
+        amount = self.inner.worth(scene)
+        return any([is_true("=", amount, other.worth(scene)) for other in self.others])
+
 
 class NotTerm:
     """A truth with "not" ahead of it, once or more often."""
@@ -199,6 +286,10 @@ class NotTerm:
         """Return the term as text."""
         return "not " * self.many + enclosed(self.inner, NOT_LEVEL)
 
+    def worth(self, scene):
+        """Return what the term is worth in a scene."""
+        return self.inner.worth(scene) == (self.many % 2 == 0)
+
 
 class MinusTerm:
     """An integer with "-" ahead of it, once or more often."""
@@ -211,3 +302,10 @@ class MinusTerm:
     def written(self):
         """Return the term as text."""
         return "-" * self.many + enclosed(self.inner, MINUS_LEVEL)
+
+    def worth(self, scene):
+        """Return what the term is worth in a scene."""
+        amount = self.inner.worth(scene)
+        for _ in range(self.many):
+            amount = negated(amount)
+        return amount

@@ -1,4 +1,4 @@
-"""What the columns of the tables of one kind hold."""
+"""Plans of tables: what the columns of the tables of one kind hold."""
 
 from oneheap.schemas.sorts import is_list, is_reference
 from oneheap.store.tables import Column

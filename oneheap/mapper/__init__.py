@@ -1,0 +1,1 @@
+"""The mapper, its sessions and versions, and the inspector."""

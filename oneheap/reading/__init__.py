@@ -1,0 +1,1 @@
+"""Reading: what a session knows of its base, and for what it asks together."""
