@@ -83,6 +83,46 @@ FILES = {
         "Layout(line)": ["object_rows(heap, number, version)", "rows_of(heap, places)", "read(rows)"], "column_count(tables)": None,
     },
     "layouts/source.py": {"RowSource(layout, rows, version)": []},
+    "store/transactions.py": {
+        "first_fault(tables, rows)": None, "are_in_order(tables, rows)": None, "run_statements(tables, rows, statements)": None,
+    },
+    "planner/needs.py": {
+        "Need(before, behind)": ["__eq__(other)"], "needs_of(tables, rows, wanted)": None, "statement_of(need)": None,
+    },
+    "planner/order.py": {"goes_ahead(tables, first, second)": None, "freed_of(tables, needs)": None},
+    "planner/planning.py": {"plan_rows(tables, rows, wanted)": None},
+    "queries/lines.py": {"check_parameters(query, parameters)": None, "lines_by(view, query, parameters, numbers)": None},
+    "queries/plans.py": {"plan_text(schema, text)": None, "candidates(view, query, parameters)": None},
+    "queries/deeds.py": {
+        "answer_query(view, text, parameters)": None, "object_columns_of(schema, text)": None, "do(view, deed)": None,
+    },
+    "reading/reader.py": {
+        "Request(what, numbers)": ["__eq__(other)"],
+        "Reader(base)": SOURCE + [
+            "knows(number)", "company(number)", "together(numbers)", "known_count()", "bounded()", "forget()", "take_requests()",
+        ],
+    },
+    "reading/company.py": {
+        "beside(reader, schema, number, field)": None, "prepare(reader, view, deed)": None,
+        "answered(reader, view, deed, answer)": None, "read_ahead(reader, schema, numbers, paths)": None,
+    },
+    "mapper/mapper.py": {
+        "Mapper(text)": ["start_session(version, number)", "add_version(text)", "shut(version)", "end(version)", "move(version, many)"],
+    },
+    "mapper/session.py": {
+        "Session(ground, version, number)": [
+            "there(number)", "kind_of(number)", "told(number, field)", "listed(number, field)", "look_up(kind, names, amounts)",
+            "referred(number, kind, field)", "ask(text, parameters)", "make(kind, contents)", "put(number, field, amount)",
+            "link(number, field, other, behind=None)", "unlink(number, field, other)", "delete(number)", "undo()", "flush()",
+            "refresh()", "rebase()", "drop()", "close()", "ahead(numbers, paths)", "forget()",
+        ],
+    },
+    "mapper/inspector.py": {
+        "version_rows(mapper)": None, "schema_text(mapper, version)": None, "step_text(mapper, version)": None,
+        "losing_of(mapper, version)": None, "would_lose(mapper, version)": None, "against(mapper, version)": None,
+        "table_rows(mapper, name)": None, "transaction(mapper)": None, "take_requests(mapper)": None,
+        "plan_of_query(mapper, version, text)": None, "why(mapper, number)": None,
+    },
 }
 
 
