@@ -106,6 +106,13 @@ class CandidatesTest(unittest.TestCase):
         self.assertEqual(self.found("o.m = 1 + :p", {"p": 2}), [3])
         self.assertEqual(self.found("o.m = 1 and o.m = 2"), [1])
 
+    def test_many_amounts_for_a_wide_key(self):
+        schema = read_schema("kind A { " + " ".join(f"{name}: int 0..9;" for name in "abcdefgh") + " key a, b, c, d, e, f, g, h; }")
+        where = " and ".join(f"o.{name} in (1, 2, 3, 4, 5, 6)" for name in "abcdefgh")
+        picture = {number: thing("A", **{name: number for name in "abcdefgh"}) for number in range(1, 10)}
+        view = View(schema, PictureSource(picture))
+        self.assertEqual(candidates(view, read_query(schema, f"from A o where {where} give o"), {}), [1, 2, 3, 4, 5, 6])
+
     def test_reference(self):
         self.assertEqual(self.found("o.r = :p", {"p": 12}), [3])
         self.assertEqual(self.found("o.r in (:p, :q)", {"p": 12, "q": 11}), [1, 3])

@@ -84,8 +84,9 @@ def transaction(mapper):
 
 def take_requests(mapper):
     """Return the last requests that the sessions made since this was called last."""
-    found = mapper.ground.requests
-    mapper.ground.requests = []
+    ground = mapper.ground
+    found = ground.requests
+    ground.requests = []
     return found
 
 

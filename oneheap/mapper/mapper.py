@@ -56,7 +56,8 @@ class Mapper:
 
     def shut(self, version):
         """Let no more sessions be opened for a version, and end those that it has."""
-        self.ground.version_of(version).shut = True
+        living = self.ground.version_of(version)
+        living.shut = True
 
     def end(self, version):
         """Take a version from an end of the line; return an object and a constraint against it if these refuse it."""

@@ -200,6 +200,7 @@ class Session:
 
     def lay_anew(self):
         """Know nothing any more, and read from the rows that are kept now, if this version has some at the moment."""
-        self.reader.forget()
+        reader = self.reader
+        reader.forget()
         if self.moment in self.ground.kept and self.ground.serves(self.version):
-            self.reader.base = self.ground.kept[self.moment].source_of(self.version)
+            reader.base = self.ground.kept[self.moment].source_of(self.version)

@@ -61,8 +61,11 @@ class NeedOrder:
         self.needs = list(needs)
         self.followers = all_followers(effects_of(tables, needs))
         self.freed = []
-        self.free_rings(places_in_order(tables, needs))
         self.made = self.all_made()
+        # What stands in a ring, or waits for one, is not made.
+        if len(self.made) < len(self.needs):
+            self.free_rings(places_in_order(tables, needs))
+            self.made = self.all_made()
 
     def free_rings(self, places):
         """Free the first need that stands in a ring until there are none; `places` has the indexes in order."""
@@ -81,7 +84,7 @@ class NeedOrder:
             self.followers[place] = []
 
     def all_made(self):
-        """Return the indexes of all needs: always the first one next of which all that go ahead are made."""
+        """Return the indexes of needs as they are made: the first one next of which all that go ahead are made."""
         waits = [0 for _ in self.needs]
         for row in self.followers:
             for place in row:

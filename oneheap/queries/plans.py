@@ -58,9 +58,13 @@ class KeyPlan:
 
     def numbers_in(self, view, kind, rows):
         """Return the numbers of the objects that are looked at; `rows` has the amounts of each part."""
-        found = []
-        for amounts in all_choices(rows):
-            found.extend(view.alike(kind, self.names, amounts))
+        if all([len(amounts) == 1 for amounts in rows]):
+            return view.alike(kind, self.names, [amounts[0] for amounts in rows])
+        # There may be too many choices of one amount for each field to ask for them one by one.
+        found = view.numbers(kind)
+        for name, amounts in zip(self.names, rows):
+            alike = numbers_alike(view, kind, name, amounts)
+            found = [number for number in found if number in alike]
         return found
 
 
@@ -76,12 +80,9 @@ class PathPlan:
         return leading_numbers(view, kind, self.parts[0].fields, rows[0])
 
 
-def all_choices(rows):
-    """Return all lists of one item of each row."""
-    found = [[]]
-    for row in rows:
-        found = [[*choice, one] for choice in found for one in row]
-    return found
+def numbers_alike(view, kind, name, amounts):
+    """Return the numbers of the objects of a kind whose content of a field is one of some amounts."""
+    return [number for amount in amounts for number in view.alike(kind, [name], [amount])]
 
 
 def leading_numbers(view, kind, fields, amounts):
@@ -89,7 +90,7 @@ def leading_numbers(view, kind, fields, amounts):
     name = fields[0]
     shape = view.schema.field_of(kind, name).shape
     if len(fields) == 1 and not is_link(shape):
-        return [number for amount in amounts for number in view.alike(kind, [name], [amount])]
+        return numbers_alike(view, kind, name, amounts)
     aims = list(amounts)
     if len(fields) > 1:
         aims = [number for one in shape.kinds for number in leading_numbers(view, one, fields[1:], amounts)]
@@ -110,7 +111,7 @@ def plan_of(schema, query):
     part = first_part(parts, [[name] for name in kind.names() if is_reference(kind.field_of(name).shape)])
     if part is not None:
         return PathPlan("reference", part)
-    part = first_part(parts, [part.fields for part in parts if 2 <= len(part.fields) <= LONGEST_PATH])
+    part = first_part(parts, [one.fields for one in parts if 2 <= len(one.fields) <= LONGEST_PATH])
     return AllPlan() if part is None else PathPlan("path", part)
 
 
