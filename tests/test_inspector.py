@@ -160,10 +160,25 @@ class RowsTest(InspectorCase):
         self.assertEqual(take_requests(self.mapper), [])
 
 
+class OrderTest(unittest.TestCase):
+    def test_the_least_numbers_first(self):
+        mapper = Mapper("kind A { a: int 0..9; b: int 0..9; }")
+        for number in (5, 2, 8):
+            session = mapper.start_session(1, number)
+            session.make("A", {"a": 1})
+            session.flush()
+        mapper.add_version("gone A.a; new not null A.b;")
+        self.assertEqual(would_lose(mapper, 1), [2001, 5001, 8001])
+        self.assertEqual(against(mapper, 2), [(2001, "A.b needed"), (5001, "A.b needed"), (8001, "A.b needed")])
+        self.assertEqual(table_rows(mapper, "v1.A"), [(2001, [1, None]), (5001, [1, None]), (8001, [1, None])])
+
+
 class WhyTest(InspectorCase):
     def test_none(self):
         self.assertIsNone(why(self.mapper, 1))
         self.assertIsNone(why(self.mapper, 2))
+        self.mapper.start_session(1, 3)
+        self.assertIsNone(why(self.mapper, 3))
 
     def test_against(self):
         self.session.make("A", {"a": 1})
@@ -232,6 +247,12 @@ class WhyTest(InspectorCase):
         self.assertEqual(why(self.mapper, 2), ("against", 1002, "A key a"))
         other.undo()
         self.assertEqual(other.refresh(), ("taken",))
+        self.assertIsNone(why(self.mapper, 2))
+        other.put(1002, "a", 1)
+        other.flush()
+        self.assertIsNotNone(why(self.mapper, 2))
+        other.put(1002, "a", 8)
+        self.assertEqual(other.flush(), ("taken",))
         self.assertIsNone(why(self.mapper, 2))
 
     def test_an_ended_version(self):

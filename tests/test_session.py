@@ -674,11 +674,43 @@ class KnownTest(SessionCase):
         self.assertEqual(self.requests(), [(2, "object", [1001])])
         self.assertEqual(self.requests(), [])
 
-    def test_told_references_come_with_their_company(self):
-        self.second.ask("from Writer w give w", {})
+    def test_deeds_bring_company(self):
+        for title in "bcd":
+            self.first.make("Book", {"title": title})
+        writers = [self.first.make("Writer", {"name": name}) for name in "uv"]
+        for book, writer in ((1004, writers[0]), (1005, writers[1])):
+            self.first.put(book, "writer", writer)
+            self.first.link(1001, "also", book)
+        self.first.flush()
+        self.second.drop()
         self.requests()
-        self.second.told(1001, "writer")
-        self.assertEqual(self.requests(), [(2, "object", [1001])])
+        self.assertEqual(self.second.listed(1001, "also"), [1005, 1004])
+        self.assertEqual(self.requests(), [(2, "object", [1001]), (2, "object", [1004, 1005])])
+        self.assertEqual(self.second.told(1004, "writer"), 1007)
+        self.assertEqual(self.requests(), [(2, "object", [1007, 1008])])
+        self.second.told(1005, "writer")
+        self.second.told(1008, "name")
+        self.assertEqual(self.requests(), [])
+        self.second.forget()
+        self.assertEqual(self.second.referred(1005, "Book", "also"), [1001])
+        self.assertEqual(self.second.ask("from Book b where b.title > \"b\" give b", {}), [[1005], [1006]])
+        self.second.forget()
+        self.second.ask("from Book b where b.title > \"a\" give b.title, b", {})
+        self.second.forget()
+        self.assertEqual(self.second.look_up("Book", ["title"], ["c"]), 1005)
+        self.requests()
+        self.second.told(1005, "title")
+        self.assertEqual(self.requests(), [])
+
+    def test_what_was_answered_together_is_read_together(self):
+        self.first.make("Book", {"writer": 1002})
+        self.first.flush()
+        self.second.drop()
+        self.requests()
+        self.assertEqual(self.second.referred(1002, "Book", "writer"), [1001, 1004])
+        self.requests()
+        self.second.told(1004, "price")
+        self.assertEqual(self.requests(), [(2, "object", [1001, 1004])])
 
     def test_forget(self):
         self.second.told(1001, "title")

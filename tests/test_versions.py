@@ -100,6 +100,8 @@ class AddTest(VersionCase):
             mapper.add_version(" ".join(last[:12]))
         with self.assertRaises(Fault):
             mapper.add_version(" ".join(last[:12]) + "gone kind C;")
+        with self.assertRaises(TooManyColumns):
+            mapper.add_version(" ".join(last[:11]) + "new kind N { a: int 0..1; };")
         self.assertEqual(self.numbers(mapper), [1, 2, 3])
         self.assertEqual(mapper.add_version(" ".join(last[:11])), 4)
 
@@ -361,6 +363,23 @@ class MoveTest(VersionCase):
         mapper.move(1, 1)
         self.assertEqual([row[0] for row in table_rows(mapper, "v1.A")], [1001])
         self.assertEqual([row[0] for row in table_rows(mapper, "v2.A")], [1002])
+
+    def test_those_that_are_placed_elsewhere_count(self):
+        mapper = self.mapper("rename A.a to b;")
+        mapper.move(2, 1)
+        mapper.move(2, 1)
+        self.assertEqual([row[0] for row in table_rows(mapper, "v2.A")], [1001, 1002])
+
+    def test_the_least_numbers(self):
+        mapper = Mapper(SCHEMA)
+        for number in (9, 3, 7):
+            session = mapper.start_session(1, number)
+            session.make("A", {})
+            session.flush()
+        mapper.add_version("")
+        mapper.move(2, 2)
+        self.assertEqual([row[0] for row in table_rows(mapper, "v2.A")], [3001, 7001])
+        self.assertEqual(table_rows(mapper, "v1.A"), [(9001, [None, None, None, []])])
 
     def test_more_than_there_are(self):
         mapper = self.mapper("gone kind B;")

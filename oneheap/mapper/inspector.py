@@ -73,8 +73,8 @@ def against(mapper, version):
 
 def table_rows(mapper, name):
     """Return the pairs of a number and the cells of the rows of now of a table, the least number first."""
-    rows = [row for row in mapper.ground.present().rows if row.table == name]
-    return [(row.number, told_copy(row.cells)) for row in sorted(rows, key=lambda row: row.number)]
+    rows = mapper.ground.present().rows
+    return [(row.number, told_copy(row.cells)) for row in rows if row.table == name]
 
 
 def transaction(mapper):

@@ -3,7 +3,7 @@
 from oneheap.errors import (
     SessionClosed, SessionTooLong, SessionTooOld, Told, TooManyObjects, VersionEnded,
 )
-from oneheap.mapper.script import Entry, standing_places, tell_anew, told_copy
+from oneheap.mapper.script import Entry, standing_places, tell_anew
 from oneheap.objects.view import View
 from oneheap.queries.deeds import do
 from oneheap.reading.company import answered, prepare, read_ahead
@@ -61,7 +61,7 @@ class Session:
 
     def ask(self, text, parameters):
         """Return the lines of the answer of a query."""
-        return self.do_deed(("query", text, dict(parameters)))
+        return self.do_deed(("query", text, parameters))
 
     def make(self, kind, contents):
         """Make an object of a kind, and return its number."""
@@ -69,7 +69,7 @@ class Session:
         if self.made == MOST_OBJECTS:
             raise TooManyObjects()
         number = NUMBERS * self.number + self.made + 1
-        self.do_deed(("make", number, kind, dict(contents)))
+        self.do_deed(("make", number, kind, contents))
         self.made += 1
         return number
 
@@ -172,7 +172,7 @@ class Session:
         if retelling.place is not None:
             place = places[retelling.place]
             entry = self.script[place]
-            self.refused = ("otherwise", place, entry.deed, entry.answer, told_copy(retelling.answer))
+            self.refused = ("otherwise", place, entry.deed, entry.answer, retelling.answer)
         return retelling
 
     def drop(self):
