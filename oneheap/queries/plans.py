@@ -131,7 +131,7 @@ def first_part(parts, rows):
 def all_parts(origin, term):
     """Return the parts among the tests that "and" alone joins, in order; `origin` is the name behind "from"."""
     if isinstance(term, ChainTerm) and term.level == AND_LEVEL:
-        return [part for side in term.sides() for part in all_parts(origin, side)]
+        return [one for side in term.sides() for one in all_parts(origin, side)]
     part = None
     if isinstance(term, CompareTerm) and term.sign == "=":
         part = part_for(origin, term.left, [term.right])
