@@ -36,6 +36,7 @@ class PlainSession:
         return self.model.heaps[moment].picture_of(self.version)
 
     def drop(self):
+        self.refused = None
         self.moment = len(self.model.heaps) - 1
         self.script = []
         self.lay(self.moment)
@@ -60,16 +61,19 @@ class PlainSession:
         return view, None, None
 
     def flush(self):
-        view, place, _ = self.anew(range(len(self.script)))
+        view, place, answer = self.anew(range(len(self.script)))
         if place is not None:
+            self.refused = ("otherwise", place) + self.script[place] + (answer,)
             return ("otherwise", place)
         base = self.picture(len(self.model.heaps) - 1)
         picture, touches = view.picture(base), touched(view)
         against = first_against(view.schema, picture, touches)
         if against is not None:
-            return ("against", against[0], against[1])
+            self.refused = ("against", against[0], against[1])
+            return self.refused
         if 400 < picture_size(view.schema, picture) > picture_size(view.schema, base):
-            return ("too large",)
+            self.refused = ("too large",)
+            return self.refused
         heap = spread(self.model.line, self.model.heaps[-1], self.version, picture, touches)
         if heap != self.model.heaps[-1]:
             self.model.heaps.append(heap)
@@ -77,9 +81,11 @@ class PlainSession:
         return ("taken",)
 
     def go_on(self, places):
-        view, place, _ = self.anew(places)
+        view, place, answer = self.anew(places)
         if place is not None:
+            self.refused = ("otherwise", place) + self.script[place] + (answer,)
             return ("otherwise", place)
+        self.refused = None
         self.script = [self.script[one] for one in places]
         self.moment = len(self.model.heaps) - 1
         self.view = view

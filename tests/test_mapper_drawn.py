@@ -6,7 +6,7 @@ import unittest
 from plain import Drawer, PlainMapper
 from oneheap.errors import Fault, Told
 from oneheap.layouts.layout import Layout
-from oneheap.mapper.inspector import step_text, table_rows, transaction, version_rows
+from oneheap.mapper.inspector import step_text, table_rows, transaction, version_rows, why
 from oneheap.mapper.mapper import Mapper
 from oneheap.store.rows import Row
 from oneheap.store.transactions import are_in_order, run_statements
@@ -86,8 +86,18 @@ class Pair:
         if len(self.model.heaps) - plain.moment > 8 or len(plain.script) == 60:
             session.drop()
             plain.drop()
+        self.read_otherwise(session, plain)
         deed = self.drawer.deed(plain.view, plain)
         self.equal(self.answer(session, deed), plain.do(deed), deed)
+
+    def read_otherwise(self, session, plain):
+        """Read ahead or forget, of which no answer depends."""
+        if self.rnd.random() < 0.1:
+            session.forget()
+        if self.rnd.random() < 0.2:
+            fields = [field.name for kind in plain.view.schema.kinds for field in kind.fields] + ["none"]
+            paths = [[self.rnd.choice(fields) for _ in range(self.rnd.randint(0, 3))] for _ in range(self.rnd.randint(0, 3))]
+            session.ahead([self.drawer.any_number(plain.view) for _ in range(self.rnd.randint(0, 15))], paths)
 
     def finish(self, number):
         session, plain = self.sessions[number]
@@ -101,6 +111,7 @@ class Pair:
         heaps = len(self.model.heaps)
         wanted = getattr(plain, word)()
         self.equal(getattr(session, word)(), wanted, (word, plain.version))
+        self.equal(why(self.mapper, number), plain.refused, "why")
         if wanted[0] == "otherwise" and self.rnd.random() < 0.7:
             session.drop()
             plain.drop()
