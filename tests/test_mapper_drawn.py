@@ -14,25 +14,41 @@ from oneheap.store.transactions import are_in_order, run_statements
 SCHEMA = (
     'kind Book { title: text 9; n: int 0..9; sort: one of "p", "q"; author: ref Author; also: list Book or Author; key n; '
     'key title, author; } '
-    'kind Author { name: text 9; boss: ref Author takes; firm: ref Firm refuses; fans: list Author; key name; } '
-    "kind Firm { f: int 0..9; m: int 0..9; of_book: ref Book; }"
+    'kind Author { name: text 9; boss: ref Author takes; firm: ref Firm refuses; fans: list Author; age: int -3..9; key name; } '
+    "kind Firm { f: int 0..9; m: int 0..9; } "
+    'kind Gate { c: one of "x", "y"; w: text 4 without ":"; v: text 9; g: ref Book; key v; }'
 )
 STEPS = (
     'split Book by sort into "p" as Poem, "q" as Story;',
+    'split Book by sort into "q" as Story, "p" as Poem else Poem; rename Author.name to called;',
     'join "b" as Book, "f" as Firm into Item by what;',
-    "rename Author.name to called; new Author.age: int 0..9 = 3; gone Firm.m = 2;",
+    'join "f" as Firm, "a" as Author into Item by what else Firm;',
+    'join "p" as Poem, "s" as Story into Book by sort;',
+    'join "s" as Story, "p" as Poem into Book by sort else Poem;',
+    'split Item by what into "b" as Book, "f" as Firm;',
+    'split Item by what into "f" as Firm, "a" as Author else Author;',
+    'split Gate by c into "y" as Y, "x" as X;',
+    'join "u" as Y, "v" as X into Gate by c;',
+    "gone kind X;",
+    "rename Author.name to called; new Author.x: int 0..9 = 3; gone Firm.m = 2;",
     "replace Firm (f, m) by (t: int 0..99) as (10 * f + m); new kind Fresh { f: ref Firm takes; l: list Fresh; };",
+    "replace Firm (f, m) by (t: int 0..18, u: int 0..99) as (f + m, f) back (1, 2);",
+    "replace Firm (f, m) by (t: int 0..18) as (f + m); rename Gate.c to d;",
     "change Book.n: int 0..3 else 1 back 7; gone Book.also; deletes Author.firm clears;",
+    'change Book.n: text 3 else "no" back 5; change Author.age: int 0..20 else 5 back -2;',
     "gone kind Firm; change Author.boss: ref Author refuses; gone Author.firm;",
-    'replace Book (title) by (one: text 9 without ":", two: text 9) as (one); ',
-    'replace Book (title) by (one: text 9 without ":", two: text 9) split ":";',
+    'replace Book (title) by (i: text 9 without ":", j: text 9) split ":" back ("z");',
+    'replace Gate (w, v) by (k: text 20) join ":" back ("a", "b");',
+    'replace Gate (c) by (d: int 0..3) table ("x") -> (1), ("y") -> (1) back ("y");',
     "rename Author to Writer; rename Book.n to number; gone key Book (number);",
-    "new key Firm (f); rename Firm to House;",
+    "new key Firm (f);",
+    "rename Firm to House; new key House (m, f);",
     "gone key Author (name); new not null Author.firm;",
     "gone kind Fresh;",
-    'split Author by kind_of into "p" as X, "q" as Y;',
     "rename Poem.n to m; gone kind Story;",
     "gone Item.f = 5; rename Item.what to sort;",
+    "gone key Gate (v); gone key Book (n);",
+    "new kind Fresh { f: ref Book or Author refuses; l: list Fresh; }; new not null Fresh.f;",
     "",
 )
 
