@@ -63,7 +63,11 @@ class StrandsTest(unittest.TestCase):
         self.assertEqual([key.name for key in carried_keys(line)], ["v1.A.key2"])
 
     def test_carried_key(self):
-        key = CarriedKey("k", [("A", ["a"])])
+        names = ["a"]
+        versions = [("A", names)]
+        key = CarriedKey("k", versions)
+        names.append("b")
+        versions.append(("B", names))
         self.assertEqual((key.name, key.versions), ("k", [("A", ["a"])]))
 
 

@@ -2,8 +2,11 @@
 
 import unittest
 
+from helper import line_of, thing
 from oneheap.errors import Fault, NoSuchVersion, NotAtAnEnd, OnlyVersion, TooManyColumns, TooManyVersions, VersionEnded, VersionIsShut
 from oneheap.mapper.inspector import against, schema_text, step_text, table_rows, take_requests, transaction, version_rows
+from oneheap.heap.heap import Heap
+from oneheap.mapper.ending import heap_at_ending, places_at_ending
 from oneheap.mapper.mapper import Mapper
 
 SCHEMA = "kind A { a: int 0..9; t: text 9; r: ref A; l: list A; key a; } kind B { n: int 0..9; r: ref A; }"
@@ -247,6 +250,8 @@ class EndTest(VersionCase):
         self.assertIsNone(mapper.end(1))
         self.assertEqual(table_rows(mapper, "v2.A"), [(1002, [1002, [1002]])])
         self.assertEqual((old.told(1002, "r"), old.listed(1002, "l")), (None, [1002]))
+        # What it reads are the rows that were laid anew: they do not hold the number any more.
+        self.assertEqual(old.reader.thing(1002), thing("A", r=None, l=[1002]))
         self.assertEqual(transaction(mapper)[2][-1], ("delete", "v1.B", 1001))
 
     def test_constraints_that_are_carried_and_stand_against_an_object(self):
@@ -274,6 +279,15 @@ class EndTest(VersionCase):
         session.flush()
         self.assertIsNone(mapper.end(2))
         self.assertEqual(version_rows(mapper), [(1, False, 4, 4)])
+
+    def test_the_least_object(self):
+        mapper = Mapper("kind A { a: int 0..9 not null; }")
+        mapper.add_version("gone not null A.a;")
+        for number in (7, 3, 5):
+            session = mapper.start_session(2, number)
+            session.make("A", {})
+            session.flush()
+        self.assertEqual(mapper.end(2), (3001, "A.a needed"))
 
     def test_constraints_that_are_not_carried_do_not_count(self):
         mapper = Mapper("kind A { a: int 0..9 not null; b: int 0..9; key b; }")
@@ -336,6 +350,14 @@ class EndTest(VersionCase):
         mapper.move(2, 3)
         session.there(1001)
         self.assertEqual(take_requests(mapper), [])
+
+    def test_the_heap_from_which_rows_are_wanted(self):
+        line = line_of("kind A { r: ref A or B; } kind B { }", "gone kind B;")
+        heap = Heap({1: {1: thing("A", r=2), 2: thing("B")}, 2: {1: thing("A", r=2)}})
+        found = heap_at_ending(line, heap, 1)
+        self.assertEqual(found, Heap({1: {1: thing("A", r=None)}, 2: {1: thing("A", r=None)}}))
+        self.assertEqual(heap_at_ending(line, heap, 2), heap)
+        self.assertEqual(places_at_ending(Heap({2: {1: thing("A", r=None)}}), {1: 1, 2: 1}, 1, 2), {1: 2})
 
     def test_a_failed_end_forgets_nothing(self):
         mapper = Mapper("kind A { a: int 0..9 not null; }")
