@@ -428,20 +428,12 @@ class FlushTest(SessionCase):
 
     def test_too_large(self):
         mapper = Mapper("kind A { } kind B { t: text 40; }")
-        first = mapper.start_session(1, 1)
-        for many in (60, 60, 60, 60, 60, 60, 36):
-            for _ in range(many if first.made < 200 else 0):
-                first.make("A", {})
-            first.flush()
-            if first.made >= 180:
-                break
-        self.assertEqual(version_rows(mapper), [(1, False, 180, 180)])
-        second = mapper.start_session(1, 2)
-        for many in (60, 60, 57):
+        first, second = mapper.start_session(1, 1), mapper.start_session(1, 2)
+        for session, many in ((first, 60), (first, 60), (first, 60), (second, 60), (second, 60), (second, 57)):
             for _ in range(many):
-                second.make("A", {})
-            self.assertEqual(second.flush(), ("taken",))
-        # 357 are there, and an object with a text of 40 signs counts 42.
+                session.make("A", {})
+            self.assertEqual(session.flush(), ("taken",))
+        # 357 objects without fields are there, and one with a text of 40 signs counts 42.
         big = second.make("B", {"t": "x" * 40})
         second.make("A", {})
         self.assertEqual(second.flush(), ("taken",))
